@@ -1,0 +1,1 @@
+"""Playstead: a game house whole in small."""

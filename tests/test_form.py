@@ -1,0 +1,115 @@
+"""The form of the package: which file defines which name, and what the language rules ask of each file."""
+
+import ast
+import inspect
+import os
+import unittest
+
+from playstead import errors, rules, words
+
+HOME = os.path.join(os.path.dirname(os.path.dirname(os.path.abspath(__file__))), "playstead")
+
+# The stage of each file: a file uses those of its own and of earlier stages alone.
+STAGES = {"__init__": 0, "errors": 1, "words": 1, "rules": 1}
+
+# What the interface lists under each file: functions and classes, then plain names.
+DEFINED = {
+    "errors": [
+        "SteadError", "NoRule", "NoText", "NoMove", "NoPlayer", "Over", "NoClock", "NoTime", "Fallen", "NoLetter",
+        "NoKey", "NoTable", "NoEntry", "NoNews", "Drift", "NoWish", "TooMany", "NoPlace", "NoRecord", "NoResult",
+        "NoGame", "NoLadder", "NoDay", "NoName", "NoCup", "NoPairing", "NoDeed",
+    ],
+    "words": ["is_name"],
+    "rules": ["Rule"],
+}
+ASSIGNED = {"rules": ["MOST", "LOSE", "EVEN"]}
+METHODS = {("rules", "Rule"): ["__init__", "told", "__eq__"]}
+
+
+def text_of(name):
+    with open(os.path.join(HOME, name + ".py"), "rb") as held:
+        return held.read().decode("ascii")
+
+
+def tree_of(name):
+    return ast.parse(text_of(name))
+
+
+def functions_of(name):
+    return [node for node in ast.walk(tree_of(name)) if isinstance(node, ast.FunctionDef)]
+
+
+class Files(unittest.TestCase):
+    def test_the_folder_holds_these_files_alone(self):
+        found = [name for name in os.listdir(HOME) if name != "__pycache__"]
+        self.assertEqual(sorted(found), sorted([name + ".py" for name in STAGES]))
+
+    def test_signs_lines_and_sizes(self):
+        for name in STAGES:
+            text = text_of(name)
+            self.assertTrue(all([sign == "\n" or " " <= sign <= "~" for sign in text]), name)
+            self.assertLessEqual(len(text.splitlines()), 399, name)
+            self.assertLessEqual(max([len(row) for row in text.splitlines()]), 120, name)
+
+    def test_functions_have_at_most_forty_lines(self):
+        for name in STAGES:
+            for node in functions_of(name):
+                self.assertLessEqual(node.end_lineno - node.lineno + 1, 40, (name, node.name))
+
+    def test_init_binds_nothing(self):
+        for node in tree_of("__init__").body:
+            self.assertIsInstance(node, ast.Expr)
+            self.assertIsInstance(node.value, ast.Constant)
+
+    def test_imports_from_stages_that_are_there(self):
+        for name in STAGES:
+            for node in ast.walk(tree_of(name)):
+                self.assertNotIsInstance(node, ast.Import, name)
+                if isinstance(node, ast.ImportFrom):
+                    package, _, other = node.module.partition(".")
+                    self.assertEqual((package, node.level), ("playstead", 0), name)
+                    self.assertLessEqual(STAGES[other], STAGES[name], name)
+
+    def test_no_decorators_and_no_percent_in_strings(self):
+        for name in STAGES:
+            for node in ast.walk(tree_of(name)):
+                self.assertEqual(getattr(node, "decorator_list", []), [], name)
+                if isinstance(node, ast.Constant) and isinstance(node.value, str):
+                    self.assertNotIn("%", node.value, name)
+
+
+class Interface(unittest.TestCase):
+    def test_defined_in_the_file_that_lists_it(self):
+        for name in DEFINED:
+            body = tree_of(name).body
+            found = [node.name for node in body if isinstance(node, (ast.FunctionDef, ast.ClassDef))]
+            for word in DEFINED[name]:
+                self.assertEqual(found.count(word), 1, (name, word))
+
+    def test_plain_names(self):
+        for name in ASSIGNED:
+            body = [node for node in tree_of(name).body if isinstance(node, ast.Assign)]
+            found = [node.targets[0].id for node in body]
+            for word in ASSIGNED[name]:
+                self.assertEqual(found.count(word), 1, (name, word))
+
+    def test_methods_stand_in_the_class_itself(self):
+        for name, kind in METHODS:
+            for node in tree_of(name).body:
+                if isinstance(node, ast.ClassDef) and node.name == kind:
+                    found = [part.name for part in node.body if isinstance(part, ast.FunctionDef)]
+                    for word in METHODS[name, kind]:
+                        self.assertEqual(found.count(word), 1, (name, kind, word))
+
+    def test_arguments(self):
+        self.assertEqual(
+            str(inspect.signature(rules.Rule)),
+            "(start, moves, *, players=2, ends=(), most=40, stuck='lose')",
+        )
+        self.assertEqual(str(inspect.signature(rules.Rule.told)), "(self)")
+        self.assertEqual(str(inspect.signature(words.is_name)), "(thing)")
+        self.assertEqual(str(inspect.signature(errors.NoText)), "(row)")
+
+
+if __name__ == "__main__":
+    unittest.main()
