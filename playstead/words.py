@@ -1,22 +1,32 @@
-"""Whether things are of the kinds that the rules are told in."""
+"""Whether things are of the kinds that the rules are told in, and numbers as texts tell them."""
+
+# Of numbers of more figures nothing is told; Python itself reads no more than some thousands.
+FIGURES = 40
 
 
 def is_name(thing):
     """Whether a thing is a text of 1 to 8 small letters."""
+    return is_small(thing, 8)
+
+
+def is_small(thing, most):
+    """Whether a thing is a text of 1 to so many small letters."""
     # Small letters beyond ASCII are none, so islower alone would not do.
     return (
         isinstance(thing, str)
-        and 1 <= len(thing) <= 8
+        and 1 <= len(thing) <= most
         and thing.isascii()
         and thing.isalpha()
         and thing.islower()
     )
 
 
-def is_number(thing, low, high):
-    """Whether a thing is a number from low to high."""
+def is_number(thing, low=None, high=None):
+    """Whether a thing is a number, from low on and up to high where these are told."""
     # Python counts True and False among the ints, the document does not.
-    return isinstance(thing, int) and not isinstance(thing, bool) and low <= thing <= high
+    if not isinstance(thing, int) or isinstance(thing, bool):
+        return False
+    return (low is None or low <= thing) and (high is None or thing <= high)
 
 
 def is_tuple(thing, low, high):
@@ -27,3 +37,11 @@ def is_tuple(thing, low, high):
 def is_list(thing, low, high):
     """Whether a thing is a list of low to high parts; a tuple may stand for it."""
     return isinstance(thing, (list, tuple)) and low <= len(thing) <= high
+
+
+def read_number(word, figures=FIGURES):
+    """The number that a word of at most so many figures tells; None of needless noughts and of all else."""
+    if len(word) > figures or not (word.isascii() and word.isdigit()):
+        return None
+    number = int(word)
+    return number if str(number) == word else None

@@ -5,12 +5,15 @@ import inspect
 import os
 import unittest
 
-from playstead import errors, rules, words
+from playstead import clocks, errors, letters, nets, rules, ruletexts, seats, tables, words, worlds
 
 HOME = os.path.join(os.path.dirname(os.path.dirname(os.path.abspath(__file__))), "playstead")
 
 # The stage of each file: a file uses those of its own and of earlier stages alone.
-STAGES = {"__init__": 0, "errors": 1, "words": 1, "rules": 1}
+STAGES = {
+    "__init__": 0, "errors": 1, "words": 1, "rules": 1, "ruletexts": 1, "worlds": 2, "clocks": 3, "letters": 4,
+    "courses": 5, "tables": 5, "seats": 6, "nets": 6,
+}
 
 # What the interface lists under each file: functions and classes, then plain names.
 DEFINED = {
@@ -21,9 +24,80 @@ DEFINED = {
     ],
     "words": ["is_name"],
     "rules": ["Rule"],
+    "ruletexts": ["rule_text", "read_rule"],
+    "worlds": ["World"],
+    "clocks": ["Clock"],
+    "letters": ["is_letter", "is_key", "letter_text", "read_letter", "sealed", "is_sealed", "are_two"],
+    "tables": ["Table"],
+    "seats": ["Seat"],
+    "nets": ["Net"],
 }
-ASSIGNED = {"rules": ["MOST", "LOSE", "EVEN"]}
-METHODS = {("rules", "Rule"): ["__init__", "told", "__eq__"]}
+ASSIGNED = {
+    "rules": ["MOST", "LOSE", "EVEN"],
+    "worlds": ["GIVEN", "FALL", "TWO"],
+    "clocks": ["FLAT", "PLUS", "GRACE", "PARTS"],
+}
+METHODS = {
+    ("rules", "Rule"): ["__init__", "told", "__eq__"],
+    ("worlds", "World"): [
+        "__init__", "cells", "turn", "allowed", "play", "give", "even", "points", "why", "played", "evens", "__len__",
+        "__eq__", "twin", "text", "mark",
+    ],
+    ("clocks", "Clock"): [
+        "__init__", "begin", "press", "stop", "left", "falls", "running", "told", "__eq__", "twin", "fresh",
+    ],
+    ("tables", "Table"): [
+        "__init__", "starts", "hear", "mark", "tick", "claim", "entries", "world", "left", "clock", "next_place",
+        "catch",
+        "__len__", "news",
+    ],
+    ("seats", "Seat"): ["__init__", "hear", "known", "sure", "clock", "wish", "shown", "out", "sends"],
+    ("nets", "Net"): ["__init__", "do", "under", "now", "table", "seat", "settle"],
+}
+
+# What each def and method takes.
+TAKES = [
+    (rules.Rule, "(start, moves, *, players=2, ends=(), most=40, stuck='lose')"),
+    (rules.Rule.told, "(self)"),
+    (words.is_name, "(thing)"),
+    (errors.NoText, "(row)"),
+    (ruletexts.rule_text, "(rule)"),
+    (ruletexts.read_rule, "(text)"),
+    (worlds.World, "(rule)"),
+    (worlds.World.play, "(self, name)"),
+    (worlds.World.give, "(self, player, *, why='given')"),
+    (worlds.World.even, "(self, player)"),
+    (worlds.World.mark, "(self, digest)"),
+    (clocks.Clock, "(players, *, base, kind='flat', plus=0, parts=0, credit=0)"),
+    (clocks.Clock.begin, "(self, player, time)"),
+    (clocks.Clock.press, "(self, time, *, late=0)"),
+    (clocks.Clock.stop, "(self, time)"),
+    (clocks.Clock.left, "(self, player, time)"),
+    (letters.is_letter, "(thing)"),
+    (letters.is_key, "(thing)"),
+    (letters.letter_text, "(letter)"),
+    (letters.read_letter, "(text)"),
+    (letters.sealed, "(key, digest, *, game, player, place, deed, ahead=0, seen=0, mark=0, stamp=0)"),
+    (letters.is_sealed, "(letter, key, digest)"),
+    (letters.are_two, "(one, other)"),
+    (tables.Table, "(game, rule, clock, keys, digest)"),
+    (tables.Table.starts, "(self, time)"),
+    (tables.Table.hear, "(self, letter, time)"),
+    (tables.Table.mark, "(self, n)"),
+    (tables.Table.tick, "(self, time)"),
+    (tables.Table.claim, "(self, one, other, time)"),
+    (tables.Table.world, "(self, *, behind=None)"),
+    (tables.Table.left, "(self, player, time)"),
+    (tables.Table.next_place, "(self, player)"),
+    (tables.Table.news, "(self, known)"),
+    (seats.Seat, "(game, rule, clock, player, key, digest)"),
+    (seats.Seat.hear, "(self, news)"),
+    (seats.Seat.wish, "(self, deed, stamp)"),
+    (nets.Net, "(table, seats)"),
+    (nets.Net.do, "(self, deed)"),
+    (nets.Net.under, "(self, player, way)"),
+    (nets.Net.seat, "(self, player)"),
+]
 
 
 def text_of(name):
@@ -102,13 +176,8 @@ class Interface(unittest.TestCase):
                         self.assertEqual(found.count(word), 1, (name, kind, word))
 
     def test_arguments(self):
-        self.assertEqual(
-            str(inspect.signature(rules.Rule)),
-            "(start, moves, *, players=2, ends=(), most=40, stuck='lose')",
-        )
-        self.assertEqual(str(inspect.signature(rules.Rule.told)), "(self)")
-        self.assertEqual(str(inspect.signature(words.is_name)), "(thing)")
-        self.assertEqual(str(inspect.signature(errors.NoText)), "(row)")
+        for thing, told in TAKES:
+            self.assertEqual(str(inspect.signature(thing)), told, thing)
 
 
 if __name__ == "__main__":

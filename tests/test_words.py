@@ -2,7 +2,7 @@
 
 import unittest
 
-from playstead.words import is_list, is_name, is_number, is_tuple
+from playstead.words import is_list, is_name, is_number, is_small, is_tuple, read_number
 
 OTHERS = [
     0, 1, -1, 10 ** 39, True, False, None, [], ["a"], ["abc"], (), ("a",), ("a", "b"), {}, {"a": 1}, b"abc",
@@ -57,6 +57,30 @@ class Kinds(unittest.TestCase):
             self.assertIs(is_number(number, 2, 5), True)
         for thing in [1, 6, True, False, None, "3", [3], (3,), {3: 3}]:
             self.assertIs(is_number(thing, 0 if isinstance(thing, bool) else 2, 5), False, repr(thing))
+
+    def test_numbers_without_bounds(self):
+        for number in [-(10 ** 39), -1, 0, 1, 10 ** 39]:
+            self.assertIs(is_number(number), True)
+            self.assertIs(is_number(number, 0), number >= 0)
+            self.assertIs(is_number(number, high=0), number <= 0)
+        for thing in OTHERS[4:]:
+            self.assertIs(is_number(thing), False, repr(thing))
+            self.assertIs(is_number(thing, 0), False, repr(thing))
+
+    def test_small_letters(self):
+        for most in [6, 8, 20]:
+            for many in range(most + 3):
+                self.assertIs(is_small("k" * many, most), 1 <= many <= most)
+        for thing in [*OTHERS, "A", "a b", "a1", "\u00e9"]:
+            self.assertIs(is_small(thing, 20), False, repr(thing))
+
+    def test_numbers_of_figures(self):
+        for number in [0, 1, 9, 10, 99, 100, 10 ** 30, 10 ** 39]:
+            self.assertEqual(read_number(str(number)), number)
+            self.assertEqual(read_number(str(number), 2), number if number < 100 else None)
+        for word in ["", "-1", "+1", "01", "00", "1.0", " 1", "1 ", "x", "1_0", "\u0663", "\u00b2", "9" * 41,
+                     "9" * 8000]:
+            self.assertIsNone(read_number(word), word)
 
     def test_tuples(self):
         for thing in [(), (1,), (1, 2)]:
