@@ -1,7 +1,7 @@
 """Clocks: how long each player may take in all, in ticks."""
 
 from playstead.errors import Fallen, NoClock, NoPlayer, NoTime
-from playstead.words import is_number
+from playstead.words import is_name, is_number, is_tuple, read_number
 
 FLAT = "flat"
 PLUS = "plus"
@@ -149,3 +149,33 @@ class Clock:
             and self._running == other._running
             and self._since == other._since
         )
+
+
+def clock_of(told, players):
+    """The clock, as at first, of such a told for so many players; NoClock of anything else."""
+    if not is_tuple(told, 6, 6) or not is_number(told[0], players, players):
+        raise NoClock("told")
+    _, base, kind, plus, parts, credit = told
+    return Clock(players, base=base, kind=kind, plus=plus, parts=parts, credit=credit)
+
+
+def is_told_by_form(thing):
+    """Whether a thing is built as a clock's told, its kind any name and its numbers any from 0 on."""
+    if not is_tuple(thing, 6, 6):
+        return False
+    return is_name(thing[2]) and all([is_number(part, 0) for part in (*thing[:2], *thing[3:])])
+
+
+def told_text(told):
+    """The parts of a clock's told, with blanks between."""
+    return " ".join([str(part) for part in told])
+
+
+def read_told(text):
+    """What is built as a clock's told, by its text; None of any other text."""
+    words = text.split(" ")
+    if len(words) != 6:
+        return None
+    numbers = [read_number(word) for word in (*words[:2], *words[3:])]
+    told = (*numbers[:2], words[2], *numbers[2:])
+    return told if is_told_by_form(told) else None

@@ -82,6 +82,10 @@ class Course:
         """Whether the game is over."""
         return self._worlds[-1].why() is not None
 
+    def points(self):
+        """The players' points, None where the game isn't over."""
+        return self._worlds[-1].points()
+
     def is_of_it(self, letter):
         """Whether a letter is of this game and a player of it."""
         return letter[GAME] == self.game and letter[PLAYER] < self.players

@@ -56,10 +56,11 @@ def _is_move(thing, cells, players):
 
 
 def _is_end(thing, cells, players):
-    return is_tuple(thing, 2, 2) and _are_tests(thing[0], cells) and _are_points(thing[1], players)
+    return is_tuple(thing, 2, 2) and _are_tests(thing[0], cells) and are_points(thing[1], players)
 
 
-def _are_points(thing, players):
+def are_points(thing, players):
+    """Whether a thing is a tuple of points for so many players."""
     return is_tuple(thing, players, players) and all([is_number(part, 0, 4) for part in thing])
 
 

@@ -92,7 +92,7 @@ class Table:
             raise NoKey("keys")
         self.game = game
         self.players = course.players
-        self._rule = rule
+        self.rule = rule
         self._keys = list(keys)
         self._digest = digest
         self._hearing = Hearing(course, {}, None)
@@ -196,7 +196,7 @@ class Table:
 
     def twin(self):
         """Another table that stands just so, and goes its own way."""
-        other = Table(self.game, self._rule, self.clock(), self._keys, self._digest)
+        other = Table(self.game, self.rule, self.clock(), self._keys, self._digest)
         other.become(self)
         return other
 

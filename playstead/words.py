@@ -3,6 +3,8 @@
 # Of numbers of more figures nothing is told; Python itself reads no more than some thousands.
 FIGURES = 40
 
+LAST_DAY = 400
+
 
 def is_name(thing):
     """Whether a thing is a text of 1 to 8 small letters."""
@@ -29,6 +31,11 @@ def is_number(thing, low=None, high=None):
     return (low is None or low <= thing) and (high is None or thing <= high)
 
 
+def is_day(thing):
+    """Whether a thing is a day: a number from 0 to 400."""
+    return is_number(thing, 0, LAST_DAY)
+
+
 def is_tuple(thing, low, high):
     """Whether a thing is a tuple of low to high parts."""
     return isinstance(thing, tuple) and low <= len(thing) <= high
@@ -37,6 +44,16 @@ def is_tuple(thing, low, high):
 def is_list(thing, low, high):
     """Whether a thing is a list of low to high parts; a tuple may stand for it."""
     return isinstance(thing, (list, tuple)) and low <= len(thing) <= high
+
+
+def are_names(thing):
+    """Whether a thing is a list of names, however many."""
+    return isinstance(thing, (list, tuple)) and all([is_name(part) for part in thing])
+
+
+def are_unlike(parts):
+    """Whether no two of some names are the same."""
+    return len({part for part in parts}) == len(parts)
 
 
 def read_number(word, figures=FIGURES):

@@ -5,6 +5,7 @@ import hashlib
 from playstead.clocks import Clock
 from playstead.letters import sealed
 from playstead.rules import Rule
+from playstead.tables import Table
 
 KEYS = ["alphakey", "betakey", "gammakey", "deltakey"]
 
@@ -99,3 +100,42 @@ def row_of_letters(table, player, deeds, **parts):
         ahead = letters[-1][9] if letters else (own[-1][9] if own else 0)
         letters.append(letter_to(table, player, deed, **{"place": place, "ahead": ahead, **parts}))
     return letters
+
+
+def chance_table(chance, *, players=None, game="nim", by=digest, keys=None, start=0, many=None):
+    """A table at which letters were heard at any times, in any order; with the clocks behind its entries."""
+    players = chance.randint(2, 4) if players is None else players
+    keys = KEYS[:players] if keys is None else keys
+    rule = chance.choice([take_rule(start=9, players=players, most=12), long_rule(players=players, most=9)])
+    clock = chance.choice([
+        flat_clock(players=players, base=60, credit=5), Clock(players, base=40, kind="grace", plus=4),
+        Clock(players, base=30, kind="plus", plus=4, credit=9), Clock(players, base=10, kind="parts", plus=5, parts=4),
+    ])
+    table = Table(game, rule, clock, keys, by)
+    clocks = {0: table.clock()}
+    table.starts(start)
+    clocks[1] = table.clock()
+    time, pool = start, []
+    for _ in range(chance.randint(0, 40) if many is None else many):
+        time += chance.choice([0, 0, 1, 2, 5])
+        pool.append(chance_letter(chance, table, players, time, game, keys))
+        table.hear(chance.choice(pool[-4:]), time)
+        if chance.random() < 0.1:
+            table.tick(time)
+        clocks[len(table)] = table.clock()
+    return table, clocks
+
+
+def chance_letter(chance, table, players, time, game, keys):
+    """A letter that a player might send, rarely one that was written by less than all, far ahead, or a second one."""
+    player = chance.choice([table.world().turn() or 0] * 3 + [chance.randrange(players)])
+    deed = chance.choice([("move", name) for name in ["one", "two", "up", "down"]] * 3 + [("even",), ("give",)])
+    allowed = table.world().allowed()
+    if allowed and chance.random() < 0.7:
+        deed = ("move", chance.choice(allowed))
+    own = standing(table)[player]
+    seen = chance.choice([len(table)] * 3 + [chance.randint(0, len(table))])
+    parts = {"game": game, "seen": seen, "mark": table.mark(seen), "stamp": max(0, time - chance.randint(0, 4))}
+    if chance.random() < 0.1:
+        parts["place"] = max(1, len(own) + chance.choice([0, 2, 2, 3]))
+    return letter_to(table, player, deed, key=keys[player], **parts)

@@ -5,14 +5,18 @@ import inspect
 import os
 import unittest
 
-from playstead import clocks, errors, letters, nets, rules, ruletexts, seats, tables, words, worlds
+from playstead import (
+    books, clocks, cups, desk, errors, houses, judging, ladders, letters, nets, pairings, records, rules, ruletexts,
+    seats, tables, words, worlds,
+)
 
 HOME = os.path.join(os.path.dirname(os.path.dirname(os.path.abspath(__file__))), "playstead")
 
 # The stage of each file: a file uses those of its own and of earlier stages alone.
 STAGES = {
     "__init__": 0, "errors": 1, "words": 1, "rules": 1, "ruletexts": 1, "worlds": 2, "clocks": 3, "letters": 4,
-    "courses": 5, "tables": 5, "seats": 6, "nets": 6,
+    "courses": 5, "tables": 5, "seats": 6, "nets": 6, "records": 7, "books": 8, "ladders": 8, "pairings": 9,
+    "cups": 9, "deeds": 10, "houses": 10, "judging": 11, "desk": 12,
 }
 
 # What the interface lists under each file: functions and classes, then plain names.
@@ -31,11 +35,20 @@ DEFINED = {
     "tables": ["Table"],
     "seats": ["Seat"],
     "nets": ["Net"],
+    "records": ["Replay", "record_of", "record_text", "read_record", "flaw"],
+    "books": ["Book"],
+    "ladders": ["Ladder", "rating", "ratings", "because", "ripple"],
+    "pairings": ["paired", "standing"],
+    "cups": ["Cup"],
+    "houses": ["House", "led"],
+    "judging": ["books_of", "judged", "leads", "sums"],
+    "desk": ["Desk", "deed_text", "read_deed"],
 }
 ASSIGNED = {
     "rules": ["MOST", "LOSE", "EVEN"],
     "worlds": ["GIVEN", "FALL", "TWO"],
     "clocks": ["FLAT", "PLUS", "GRACE", "PARTS"],
+    "ladders": ["FIRST", "WIDE", "LEAST"],
 }
 METHODS = {
     ("rules", "Rule"): ["__init__", "told", "__eq__"],
@@ -53,6 +66,17 @@ METHODS = {
     ],
     ("seats", "Seat"): ["__init__", "hear", "known", "sure", "clock", "wish", "shown", "out", "sends"],
     ("nets", "Net"): ["__init__", "do", "under", "now", "table", "seat", "settle"],
+    ("records", "Replay"): ["__init__", "world", "clock", "left", "moves", "points", "__len__"],
+    ("books", "Book"): [
+        "__init__", "tell", "mend", "strike", "results", "of", "days", "names", "twin", "__len__",
+    ],
+    ("ladders", "Ladder"): ["__init__", "told"],
+    ("cups", "Cup"): ["__init__", "pair", "rounds", "points_by", "game_name"],
+    ("houses", "House"): [
+        "__init__", "do", "log", "deeds", "today", "now", "members", "games", "table", "book", "names_of", "day_of",
+        "cups", "cup_standing", "cup_rounds", "cup_asked", "ladder", "rating", "twin", "all_done",
+    ],
+    ("desk", "Desk"): ["__init__", "say"],
 }
 
 # What each def and method takes.
@@ -97,6 +121,49 @@ TAKES = [
     (nets.Net.do, "(self, deed)"),
     (nets.Net.under, "(self, player, way)"),
     (nets.Net.seat, "(self, player)"),
+    (records.record_of, "(table)"),
+    (records.record_text, "(record)"),
+    (records.read_record, "(text)"),
+    (records.flaw, "(record, *, keys=None, digest=None)"),
+    (records.Replay, "(record)"),
+    (records.Replay.world, "(self, n)"),
+    (records.Replay.clock, "(self, n)"),
+    (records.Replay.left, "(self, n, player, time)"),
+    (books.Book, "()"),
+    (books.Book.tell, "(self, result)"),
+    (books.Book.mend, "(self, game, points)"),
+    (books.Book.strike, "(self, game)"),
+    (books.Book.of, "(self, name)"),
+    (ladders.Ladder, "(*, first=1000, wide=400, steps=((10, 40), (None, 20)), least=100)"),
+    (ladders.rating, "(book, name, day, *, ladder)"),
+    (ladders.ratings, "(book, day, *, ladder)"),
+    (ladders.because, "(book, name, day, *, ladder)"),
+    (ladders.ripple, "(book, other, day, *, ladder)"),
+    (pairings.paired, "(names, *, points, met=(), sat=(), firsts=None)"),
+    (pairings.standing, "(names, results)"),
+    (cups.Cup, "(cup, names, *, rounds)"),
+    (cups.Cup.pair, "(self, points)"),
+    (cups.Cup.points_by, "(self, results)"),
+    (cups.Cup.game_name, "(self, lap, k)"),
+    (houses.House, "(digest, *, ladder=None)"),
+    (houses.House.do, "(self, deed)"),
+    (houses.House.table, "(self, game)"),
+    (houses.House.names_of, "(self, game)"),
+    (houses.House.day_of, "(self, game)"),
+    (houses.House.cup_standing, "(self, cup)"),
+    (houses.House.cup_rounds, "(self, cup)"),
+    (houses.House.cup_asked, "(self, cup)"),
+    (houses.House.rating, "(self, name, *, day=None)"),
+    (houses.House.all_done, "(self, deeds)"),
+    (houses.led, "(digest, deeds, *, ladder=None)"),
+    (judging.books_of, "(house)"),
+    (judging.judged, "(books, digest)"),
+    (judging.leads, "(house, name, day)"),
+    (judging.sums, "(rows, ladder)"),
+    (desk.deed_text, "(deed)"),
+    (desk.read_deed, "(text)"),
+    (desk.Desk, "(digest)"),
+    (desk.Desk.say, "(self, row)"),
 ]
 
 
@@ -139,7 +206,7 @@ class Files(unittest.TestCase):
         for name in STAGES:
             for node in ast.walk(tree_of(name)):
                 self.assertNotIsInstance(node, ast.Import, name)
-                if isinstance(node, ast.ImportFrom):
+                if isinstance(node, ast.ImportFrom) and node.module != "math":
                     package, _, other = node.module.partition(".")
                     self.assertEqual((package, node.level), ("playstead", 0), name)
                     self.assertLessEqual(STAGES[other], STAGES[name], name)
