@@ -74,8 +74,8 @@ class Cup:
         """A dict from its names, in order, to their points by a list of results."""
         points = {name: SAT_OUT * len([out for _, out in self._laps if out == name]) for name in self._names}
         for result in self.counted(results):
-            for name, worth in zip(result[2], result[3]):
-                points[name] += worth
+            for one, worth in zip(result[2], result[3]):
+                points[one] += worth
         return points
 
     def game_name(self, lap, k):
