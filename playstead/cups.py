@@ -47,7 +47,7 @@ class Cup:
             raise Over("over")
         met = [pair for games, _ in self._laps for pair in games]
         sat = [out for _, out in self._laps if out is not None]
-        firsts = {name: len([pair for pair in met if pair[0] == name]) for name in self._names}
+        firsts = {name: len([game for game in met if game[0] == name]) for name in self._names}
         games, out = paired(self._names, points=points, met=met, sat=sat, firsts=firsts)
         self._laps.append((tuple(games), out))
         return (games, out)

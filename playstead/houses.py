@@ -155,35 +155,28 @@ class House:
         self._look_for_end(game)
 
     def _look_for_end(self, game):
-        """Tells the book of a game that is over and wasn't ahead."""
+        """Tells the book of a game that is over since now."""
         held = self._games[game]
-        if held.day is None and held.is_over():
+        if held.day is not None:
+            # Over already: by a catch its points may have changed.
+            self._book.mend(game, held.points())
+        elif held.is_over():
             held.day = self._day
             self._book.tell((game, self._day, held.names, held.points()))
-
-    def _look_for_catch(self, game, ahead):
-        """Mends the book where the game, over already, keeps a catch that it didn't keep ahead."""
-        held = self._games[game]
-        if held.day is not None and ahead is None and held.table.catch() is not None:
-            self._book.mend(game, held.points())
-        self._look_for_end(game)
 
     def _hear(self, letter):
         if not self._is_for_table(letter):
             return "none"
-        table = self._games[letter[GAME]].table
-        ahead = table.catch()
-        told = table.hear(letter, self._now)
-        self._look_for_catch(letter[GAME], ahead)
+        told = self._games[letter[GAME]].table.hear(letter, self._now)
+        self._look_for_end(letter[GAME])
         return told
 
     def _claim(self, one, other):
         if not self._is_for_table(one):
             return "none"
-        table = self._games[one[GAME]].table
-        if not table.claim(one, other, self._now):
+        if not self._games[one[GAME]].table.claim(one, other, self._now):
             return "none"
-        self._look_for_catch(one[GAME], None)
+        self._look_for_end(one[GAME])
         return "struck"
 
     def _is_for_table(self, thing):

@@ -47,6 +47,7 @@ class Results(Case):
             (3, [*OTHERS, 0, [2, 0], (2,), (2, 0, 0), (2, -1), (2, 5), (2, True), (False, 2), (2, None), ("2", "0")]),
         ]:
             wrong += [(*FIRST[:at], thing, *FIRST[at + 1:]) for thing in things]
+        wrong += [(*FIRST[:2], names, (1,) * len(names)) for names in [(), ("bob",), ("a", "b", "c", "d", "e")]]
         return wrong
 
     def test_no_result(self):

@@ -163,7 +163,7 @@ class Records(Case):
 
     def test_names(self):
         for names in [("ada",), (), ("ada", "bob", "cyd"), ("ada", "ada"), ("bob", "zoe"), ("Ada", "bob"),
-                      ("ada", "take")]:
+                      ("ada", "take"), ("ada", "bob", "ada"), ("ada", "ada", "bob")]:
             self.judges(with_record("mover", names=names), ("record", "mover", 0))
         for names in [("cyd", "ada"), ("cyd", "ada", "bob", "dan"), ("cyd", "ada", "cyd"), ("cyd", "ada", "zoe")]:
             self.judges(with_record("given", names=names), ("record", "given", 0))
@@ -245,6 +245,7 @@ class Catches(Case):
         for pair in [(one, one), (one, None), (None, None), (one, "x"), (one, list(other)), (one, other[:9]),
                      (one, self.letters("bob", GIVE, place=5)[0]), (one, self.letters("ada", GIVE)[0]),
                      self.letters("bob", EVEN, GIVE, game="mover"), self.letters("bob", EVEN, GIVE, game="late"),
+                     self.letters("cyd", EVEN, GIVE, game="xba"),
                      (one, self.letters("bob", GIVE, key="wrong")[0]), (self.letters("bob", GIVE, key="wrong")[0], one),
                      self.letters("bob", EVEN, GIVE, key=MEMBERS["ada"])]:
             self.judges(with_row(CATCH, 0, (game, *pair)), ("catch", game))
@@ -372,6 +373,13 @@ class Cups(Case):
             self.judges(with_part(CUP, [("x", ("ada", "bob", "cyd"), 9, tuple(laps))], books), flaw)
 
         judges([((("ada", "bob"),), "cyd"), ((("bob", "ada"),), "cyd")], ("cup", "x", 2))
+        for more in [[("xba", ("bob", "ada")), ("xbb", ("dan", "cyd"))], [("xba", ("ada", "bob")), ("xbb", ("cyd", "dan"))],
+                     [("xba", ("ada", "cyd")), ("xbb", ("bob", "dan")), ("xca", ("ada", "bob")), ("xcb", ("cyd", "dan"))]]:
+            games = [("xaa", ("ada", "bob")), ("xab", ("cyd", "dan")), *more]
+            books = books_of(house_of(deeds=[("open", game, "long", names, CLOCK) for game, names in games]))
+            laps = [(tuple([names for game, names in games if game[1] == lap]), None) for lap in "abc"[:len(games) // 2]]
+            self.judges(with_part(CUP, [("x", ("ada", "bob", "cyd", "dan"), 9, tuple(laps))], books),
+                        ("cup", "x", len(laps)))
         four = [("xaa", ("ada", "bob")), ("xab", ("cyd", "dan")), ("xba", ("dan", "ada")), ("xbb", ("bob", "cyd")),
                 ("xca", ("bob", "ada")), ("xcb", ("dan", "cyd"))]
         books = books_of(house_of(deeds=[("open", game, "long", names, CLOCK) for game, names in four]))
@@ -404,6 +412,18 @@ class Cups(Case):
         for k, pair in enumerate(pairs[:5]):
             house.do(("open", "xa" + "abcde"[k], "long", pair, CLOCK))
         self.judges(with_part(CUP, [("x", names, 9, ((pairs, None),))], books_of(house)), ("cup", "x", 1))
+
+        # Eleven can meet for eleven rounds, but there are letters for nine.
+        laps = []
+        for lap in range(11):
+            turned = [names[(at + lap) % 11] for at in range(11)]
+            laps.append((tuple([(turned[at], turned[-at]) for at in range(1, 6)]), turned[0]))
+        house = house_of(deeds=[("member", name, "key") for name in names])
+        for lap in range(9):
+            for k, pair in enumerate(laps[lap][0]):
+                house.do(("open", "x" + "abcdefghi"[lap] + "abcde"[k], "long", pair, CLOCK))
+        for many, flaw in [(9, None), (10, ("cup", "x", 10)), (11, ("cup", "x", 10))]:
+            self.judges(with_part(CUP, [("x", names[:11], 99, tuple(laps[:many]))], books_of(house)), flaw)
 
     def test_cup_by_cup(self):
         good = BOOKS[CUP][0]
@@ -573,6 +593,20 @@ class Sums(Case):
         for thing in [*OTHERS, 0, [None], [self.ROWS[0][3][0], 5], self.ROWS[0][3][0], [list(self.ROWS[0][3][0])],
                       [self.ROWS[0][3][0][:4]], [(*self.ROWS[0][3][0], ())]]:
             self.sums(self.with_row(0, 3, thing), False)
+
+    def test_rows_whose_sum_is_right(self):
+        right = ("a", "bob", (1, 1), (1, 2), ())
+        for row, behind, expected in [
+            (right, 1020, True), ((*right, ()), 1020, False), (right[:4], 1020, False), (list(right), 1020, False),
+            ((*right[:3], (3, 2), ()), 980, False), ((*right[:3], (2, 1), ()), 960, False),
+            ((*right[:3], (-1, 2), ()), 1060, False), ((*right[:3], (-1, 1), ()), 1080, False),
+            ((*right[:3], (2, 4), ()), 1020, False), ((*right[:3], (1, 1), ()), 1000, True),
+            ((*right[:3], (0, 1), ()), 1040, True), ((*right[:3], (0, 5), ()), 1040, False),
+            ((*right[:2], (2, 2), *right[3:]), 1020, False), ((*right[:2], (1, 3), (1, 3), ()), 1000, False),
+            ((*right[:2], (3, 2), *right[3:]), 1040, False), ((*right[:2], (True, 1), *right[3:]), 1020, False),
+            ((*right[:3], (True, 2), ()), 1020, False),
+        ]:
+            self.sums([(0, 1000, behind, [row])], expected)
 
     def test_games_rising_through_a_day(self):
         for at, k, game in [(0, 0, "b"), (0, 0, "c"), (0, 1, "a"), (1, 0, "d"), (1, 1, "b"), (1, 2, "a")]:
