@@ -122,8 +122,7 @@ class Desk:
         try:
             return self._answer(row) if self._name is None else self._take_rule(row)
         except SteadError as e:
-            word = type(e).__name__
-            return f"refused {word.lower()}"
+            return f"refused {e.word()}"
 
     def _take_rule(self, row):
         if row != "over":

@@ -18,6 +18,10 @@ def _own(thing, deep=20):
 class SteadError(ValueError):
     """What all refusals stand under."""
 
+    def word(self):
+        """The class's name in small letters."""
+        return self.__class__.__name__.lower()
+
 
 class NoRule(SteadError):
     """What is no rule."""

@@ -42,6 +42,12 @@ class Family(unittest.TestCase):
                 raise made
 
 
+    def test_its_word(self):
+        for name in FIELDS:
+            made = getattr(errors, name)() if FIELDS[name] is None else getattr(errors, name)(3)
+            self.assertEqual(made.word(), name.lower())
+
+
 class Fields(unittest.TestCase):
     def test_by_place_and_by_name(self):
         for name in FIELDS:
